@@ -1,0 +1,1 @@
+"""Letterheld: things held by one of many offices that only write letters."""
