@@ -1,4 +1,4 @@
-"""The shape of the package: what its interface lists, and rules of the language that can be read off the text."""
+"""The shape of the package: what its interface lists, and a few rules of the language (files, imports, sizes, characters)."""
 
 import ast
 import doctest
