@@ -6,7 +6,7 @@ GREATEST = 1000000000
 LONGEST_NAME = 12
 
 # The kinds of the words behind the first one. The lines "split" and "join",
-# which have any number of words, are in `line_kinds`.
+# which have any number of words, are in `line_kinds`. A "place" is a number or 0.
 LINES = {
     "register": ("thing", "number"),
     "give": ("thing", "number", "office"),
@@ -31,8 +31,18 @@ LETTERS = {
 
 def is_office(text):
     """Tell whether a text is the name of an office."""
+    if not isinstance(text, str) or len(text) > LONGEST_NAME:
+        return False
     # isalpha and islower alone would let letters beyond a to z pass.
-    return len(text) <= LONGEST_NAME and text.isascii() and text.isalpha() and text.islower()
+    return text.isascii() and text.isalpha() and text.islower()
+
+
+def is_quantity(worth):
+    """Tell whether a value is a quantity."""
+    # Python counts True and False among the integers.
+    if not isinstance(worth, int) or isinstance(worth, bool):
+        return False
+    return 1 <= worth <= GREATEST
 
 
 def is_number(text):
@@ -62,7 +72,9 @@ def maker_of(thing):
 
 def read_word(kind, word):
     """Return what a word stands for, or None if it is not of this kind."""
-    if kind == "number":
+    if kind == "place" and word == "0":
+        return 0
+    if kind == "number" or kind == "place":
         return int(word) if is_number(word) else None
     if kind == "thing":
         return word if is_thing(word) else None
@@ -101,6 +113,11 @@ def read_line(line):
 def write_words(row):
     """Return the words of a tuple with one space between them."""
     return " ".join([str(word) for word in row])
+
+
+def is_line(row):
+    """Tell whether a tuple is a line, so that a journal that has it can be read again."""
+    return read_line(write_words(row)) == row
 
 
 def format_line(row):
