@@ -52,7 +52,7 @@ class Book:
         """Return the entry of a thing, or None if the thing is not known."""
         return self.entries.get(thing)
 
-    def is_free(self, thing):
+    def has_free(self, thing):
         """Tell whether the office holds a thing that is not called back."""
         entry = self.entry(thing)
         return entry is not None and entry.is_free()

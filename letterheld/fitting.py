@@ -1,4 +1,7 @@
-"""Whether a line of a journal fits the book of the lines ahead of it."""
+"""Whether a line of a journal fits the book of the lines ahead of it.
+
+A line has its form already: there are at least two parts or two things, and all numbers are within their limits.
+"""
 
 from letterheld.notation import GREATEST, maker_of
 
@@ -9,7 +12,7 @@ def register_fits(book, row):
 
 def give_fits(book, row):
     _, thing, epoch, receiver = row
-    return book.is_free(thing) and epoch == book.entry(thing).epoch + 1 and receiver != book.name
+    return book.has_free(thing) and epoch == book.entry(thing).epoch + 1 and receiver != book.name
 
 
 def got_fits(book, row):
@@ -25,16 +28,16 @@ def got_fits(book, row):
 
 def split_fits(book, row):
     _, thing, *rest = row
-    if not book.is_free(thing) or not book.can_make(rest[0::2]):
+    if not book.has_free(thing) or not book.can_make(rest[0::2]):
         return False
-    return len(rest) >= 4 and sum(rest[1::2]) == book.entry(thing).quantity
+    return sum(rest[1::2]) == book.entry(thing).quantity
 
 
 def join_fits(book, row):
     _, new, *things = row
-    if len(things) < 2 or len(set(things)) < len(things) or not book.can_make([new]):
+    if len(set(things)) < len(things) or not book.can_make([new]):
         return False
-    if not all([book.is_free(thing) for thing in things]):
+    if not all([book.has_free(thing) for thing in things]):
         return False
     entries = [book.entry(thing) for thing in things]
     if not all([entry.home == entries[0].home for entry in entries]):
@@ -43,7 +46,7 @@ def join_fits(book, row):
 
 
 def use_fits(book, row):
-    return book.is_free(row[1])
+    return book.has_free(row[1])
 
 
 def recall_fits(book, row):

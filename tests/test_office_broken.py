@@ -165,6 +165,15 @@ class BrokenTest(unittest.TestCase):
         Office("ash", text + "receipt ash-1 4\n")
         self.check_broken(text + "receipt ash-1 4\nreceipt ash-1 4\n", 7)
 
+    def test_what_is_made_was_not_known(self):
+        """A notice can tell of a thing with the next number, and then nothing can get this number."""
+        text = "register ash-1 5\nregister ash-2 6\n"
+        for line, number in (("register ash-3 5", 3), ("join ash-3 ash-1 ash-2", 3), ("split ash-1 ash-3 2 ash-4 3", 3),
+                             ("split ash-1 ash-3 2 ash-4 3", 4)):
+            Office("ash", text + line + "\n")
+            self.check_broken(text + f"notice ash-{number} bay\n" + line + "\n", 4)
+            Office("ash", text + f"notice ash-{number + 2} bay\n" + line + "\n")
+
     def test_a_got_behind_a_giving_needs_a_higher_epoch(self):
         text = "got bay-1 bay 5 7 bay\ngive bay-1 8 cob\n"
         for epoch in (2, 6, 7, 8):

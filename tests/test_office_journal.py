@@ -76,6 +76,17 @@ class JournalTest(unittest.TestCase):
                                          leading.outcome(getattr(second, action), thing))
                 self.assertEqual(book_of(first), book_of(second))
 
+    def test_no_command_writes_what_could_not_be_read_again(self):
+        """Letters that no world writes can bring the greatest epoch, or take away the next number."""
+        ash = Office("ash", "register ash-1 40\n")
+        ash.receive(("deed", "bay", "ash", "bay-1", "bay", 5, 1000000000))
+        ash.receive(("notice", "bay", "ash", "ash-2"))
+        before = book_of(ash)
+        for action, words in (("give", ("bay-1", "cob")), ("create", (5,)), ("split", ("ash-1", [10, 30]))):
+            self.assertEqual(leading.outcome(getattr(ash, action), *words)[0], "error")
+            self.assertEqual(book_of(ash), before)
+        self.check_again(ash)
+
     def test_small_journal_in_full(self):
         journal = "register ash-1 40\nsplit ash-1 ash-2 15 ash-3 25\ngive ash-2 2 bay\nuse ash-3\npay ash-3 ash 25\n"
         journal += "paid ash-3 25\nreceipt ash-2 2\nrecall ash-1\nnoted ash-2 bay\npay bay-7 bay 3\n"

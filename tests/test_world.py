@@ -138,6 +138,14 @@ class WorldTest(unittest.TestCase):
             self.check_error(world, "NoLetter", "deliver", place)
         world.deliver(1)
 
+    def test_a_letter_to_an_office_that_is_not_here(self):
+        """Only somebody outside can put it into the net; it stays there."""
+        world = self.led(["ash", "bay"], ("create", "ash", 40), ("give", "ash", "ash-1", "bay"))
+        world.net.send(("notice", "ash", "zed", "ash-1"))
+        self.check_error(world, "InvalidOffice", "deliver", 1)
+        world.deliver(0)
+        self.check_error(world, "InvalidOffice", "deliver", 0)
+
     def test_tick_sends_all_pending_letters_again(self):
         world = self.led(["ash", "bay", "cob"], ("create", "ash", 40), ("create", "ash", 5), ("create", "ash", 6),
                          ("use", "ash", "ash-2"), ("give", "ash", "ash-1", "bay"), ("give", "ash", "ash-3", "cob"),
